@@ -1,0 +1,1 @@
+"""How long a call can wait, and whom a stop can harm."""

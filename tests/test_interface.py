@@ -1,0 +1,165 @@
+"""[10] and "The interface": what must exist, where, under which names, and how it may be called."""
+
+import importlib
+import inspect
+import unittest
+
+from nearhelp.books import Book
+from nearhelp.codes import compiled
+from nearhelp.hands import begin_state, refused, standing, step
+from nearhelp.libraries import Library, read_library
+from nearhelp.machine import run_code
+from nearhelp.ports import Ports, read_ports
+from nearhelp.processes import Process, read_process
+from nearhelp.words import condition_text, is_condition, is_steps, read_condition
+
+FUNCTIONS = {
+    "ports": {"read_ports": "text"},
+    "words": {
+        "is_condition": "ports numbers value", "is_steps": "ports numbers value", "condition_text": "condition",
+        "read_condition": "ports numbers text",
+    },
+    "processes": {"read_process": "ports text"},
+    "hands": {
+        "begin_state": "process index", "refused": "process state", "standing": "process state",
+        "step": "process state side",
+    },
+    "codes": {"compiled": "process side"},
+    "machine": {"run_code": "process code state"},
+    "libraries": {"read_library": "text"},
+}
+CLASSES = {
+    ("ports", "Ports"): {"__init__": "kinds", "sides": "", "kind": "side", "others": "side", "__eq__": "other", "text": ""},
+    ("processes", "Process"): {"__init__": "ports name numbers begins does refuses", "__eq__": "other", "text": ""},
+    ("books", "Book"): {
+        "__init__": "process", "states": "", "place": "state", "standing": "index", "after": "index side",
+        "standings": "", "way": "index",
+    },
+    ("libraries", "Library"): {
+        "__init__": "ports processes", "names": "", "book": "name", "standings": "", "holders": "standing",
+        "__eq__": "other", "text": "",
+    },
+}
+PORTS = Ports([("q", 2), ("p", 2)])
+DOES = [("p1", [("if", ("above", ("due", "p1"), 0), [("repeat", 2, [("add", "a", 1)])], [("set", "a", 0)])])]
+TEXT = """port q 2
+port p 2
+process x
+ number a 2
+ begin p1 p1 q2
+ at p1
+  if due p1 above 0
+   repeat 2 times
+    add a by 1
+  else
+   set a to 0
+ refuse q2 if a is 0"""
+
+
+def make():
+    return Process(PORTS, "x", [("a", 2)], [["p1", "p1", "q2"]], DOES, [("q2", ("is", "a", 0))])
+
+
+def calls():
+    """Calls of everything, as pairs of a function and its named arguments; all of them return what they tell."""
+    process, state = make(), ((2,), ("p1", "q2"))
+    book, library = Book(process), Library(PORTS, [process])
+    shown = lambda found: [found.text(), type(found).__name__]
+    return [
+        (lambda kinds: shown(Ports(kinds)), {"kinds": [("p", 2)]}),
+        (lambda text: shown(read_ports(text)), {"text": "port p 2"}),
+        (PORTS.sides, {}), (PORTS.kind, {"side": "p1"}), (PORTS.others, {"side": "p1"}), (PORTS.text, {}),
+        (is_condition, {"ports": PORTS, "numbers": ["a"], "value": ("is", "a", 1)}),
+        (is_steps, {"ports": PORTS, "numbers": ["a"], "value": DOES[0][1]}),
+        (condition_text, {"condition": ("not", ("is", "a", 1))}),
+        (read_condition, {"ports": PORTS, "numbers": ["a"], "text": "not a is 1"}),
+        (lambda ports, text: shown(read_process(ports, text)), {"ports": PORTS, "text": process.text()}),
+        (process.text, {}), (begin_state, {"process": process, "index": 0}),
+        (refused, {"process": process, "state": state}), (standing, {"process": process, "state": state}),
+        (step, {"process": process, "state": state, "side": "q2"}), (compiled, {"process": process, "side": "p1"}),
+        (run_code, {"process": process, "code": compiled(process, "p1"), "state": state}),
+        (book.states, {}), (book.place, {"state": state}), (book.standing, {"index": 1}),
+        (book.after, {"index": 3, "side": "q2"}), (book.standings, {}), (book.way, {"index": 2}),
+        (library.names, {}), (lambda name: library.book(name).states(), {"name": "x"}), (library.standings, {}),
+        (library.holders, {"standing": (("p1", "q2"), ())}), (library.text, {}),
+        (lambda text: shown(read_library(text)), {"text": TEXT}),
+    ]
+
+
+def lists_in(value):
+    """All lists at any depth within a value."""
+    if not isinstance(value, (list, tuple)):
+        return []
+    return ([value] if isinstance(value, list) else []) + [found for item in value for found in lists_in(item)]
+
+
+class InterfaceTest(unittest.TestCase):
+    def parameters(self, function):
+        found = inspect.signature(function).parameters.values()
+        self.assertEqual([row for row in found if row.default is not row.empty or row.kind != row.POSITIONAL_OR_KEYWORD], [])
+        return [row.name for row in found]
+
+    def test_functions_are_defined_in_their_files(self):
+        for name, functions in FUNCTIONS.items():
+            module = importlib.import_module("nearhelp." + name)
+            for function, parameters in functions.items():
+                found = getattr(module, function)
+                self.assertTrue(inspect.isfunction(found))
+                self.assertEqual(found.__module__, "nearhelp." + name)
+                self.assertEqual(self.parameters(found), parameters.split())
+
+    def test_methods_are_defined_in_their_classes(self):
+        for (name, made), methods in CLASSES.items():
+            found = getattr(importlib.import_module("nearhelp." + name), made)
+            self.assertEqual([found.__module__, found.__bases__], ["nearhelp." + name, (object,)])
+            for method, parameters in methods.items():
+                self.assertIn(method, vars(found))
+                self.assertEqual(self.parameters(vars(found)[method])[1:], parameters.split())
+
+    def test_attributes_are_set_on_objects(self):
+        process = make()
+        self.assertEqual([type(value) for value in vars(PORTS).values()][:1], [tuple])
+        self.assertIn("kinds", vars(PORTS))
+        for name, kind in [("ports", Ports), ("name", str), ("numbers", tuple), ("begins", tuple), ("does", tuple), ("refuses", tuple)]:
+            self.assertIs(type(vars(process)[name]), kind)
+        self.assertIs(type(vars(Book(process))["process"]), Process)
+        library = vars(Library(PORTS, [process]))
+        self.assertEqual([type(library["ports"]), type(library["most"])], [Ports, int])
+
+
+class CallsTest(unittest.TestCase):
+    def test_by_position_and_by_name(self):
+        for call, named in calls():
+            self.assertEqual(repr(call(*named.values())), repr(call(**named)))
+        self.assertEqual(read_library(TEXT).text(), TEXT)
+
+    def test_arguments_stay_unchanged(self):
+        for call, named in calls():
+            told = {name: repr(value) for name, value in named.items()}
+            call(**named)
+            self.assertEqual({name: repr(value) for name, value in named.items()}, told)
+
+    def test_equal_answers_of_equal_objects(self):
+        for (call, named), (other, same) in zip(calls(), calls()):
+            self.assertEqual(repr(call(**named)), repr(other(**same)))
+
+    def test_lists_are_new_on_each_call_at_any_depth(self):
+        for call, named in calls():
+            first = call(**named)
+            wanted = repr(first)
+            found = lists_in(first)
+            self.assertEqual(len(found), len({id(row) for row in found}))
+            for row in found:
+                row.clear()
+            self.assertEqual(repr(call(**named)), wanted)
+
+    def test_kinds_of_values(self):
+        for call, named in calls():
+            found = call(**named)
+            self.assertIn(type(found), [list, tuple, str, int, bool])
+            if type(found) is tuple:
+                self.assertEqual(lists_in(found), [])
+
+
+if __name__ == "__main__":
+    unittest.main()
