@@ -37,18 +37,16 @@ def _item_rows(item, slot):
         return [item]
     if word == "if":
         return _if_rows(item, slot)
-    rows = _steps_rows(item[2], slot + 1)
     # A slot takes no 0.
-    if item[1] == 0 or not rows:
+    if item[1] == 0:
         return []
+    rows = _steps_rows(item[2], slot + 1)
     return [("load", slot, item[1])] + rows + [("loop", slot, -len(rows))]
 
 
 def _if_rows(item, slot):
     first = _steps_rows(item[2], slot)
     second = _steps_rows(item[3], slot)
-    if not first and not second:
-        return []
     if second:
         first.append(("jump", len(second) + 1))
     return _test_rows(item[1], True, len(first)) + first + second

@@ -41,15 +41,10 @@ def take_steps(lines, front):
 
 def _take_steps(lines, front, deepest):
     steps = []
-    # A text may have lines that are deeper than steps can be: these are left where they are.
-    while deepest > 0 and lines and _begins_item(lines[-1], front):
+    # A text may have lines that are deeper than steps can be: these are left to make wrong items.
+    while deepest > 0 and lines and lines[-1].startswith(" " * front):
         steps.append(_take_item(lines, front, deepest))
     return steps
-
-
-def _begins_item(line, front):
-    space = " " * front
-    return line.startswith(space) and not line.startswith(space + " ") and line != space + "else"
 
 
 def _take_item(lines, front, deepest):

@@ -108,11 +108,7 @@ def _is_condition(ports, numbers, value, deepest):
 def _is_amount(ports, numbers, value):
     if isinstance(value, tuple):
         return len(value) == 2 and value[0] == "due" and ports.has(value[1])
-    return is_between(value, 0, 9) or _is_number(numbers, value)
-
-
-def _is_number(numbers, value):
-    return isinstance(value, str) and value in numbers
+    return is_between(value, 0, 9) or value in numbers
 
 
 def _are_steps(ports, numbers, value, deepest):
@@ -126,7 +122,7 @@ def _is_step(ports, numbers, value, deepest):
         return False
     word, parts = value[0], value[1:]
     if word in CHANGING:
-        return len(parts) == 2 and _is_number(numbers, parts[0]) and _is_amount(ports, numbers, parts[1])
+        return len(parts) == 2 and parts[0] in numbers and _is_amount(ports, numbers, parts[1])
     if word == "repeat":
         return len(parts) == 2 and is_between(parts[0], 0, 9) and _are_steps(ports, numbers, parts[1], deepest - 1)
     if word != "if" or len(parts) != 3 or not is_condition(ports, numbers, parts[0]):

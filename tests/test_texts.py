@@ -238,6 +238,10 @@ class ProcessTextTest(TextCase):
             self.assertLess(len(text), 20000)
             self.refused(text)
         self.refused(head + "\n refuse p1 if " + "not " * 4900 + "0 is 0")
+        # Far beyond what callers pass: reading does not go as deep as a text does.
+        for below in ["if 0 is 0", "repeat 2 times", "if 0 is 0\n{}else"]:
+            rows = [" " * front + below.format(" " * front) for front in range(2, 1100)]
+            self.refused(head + "\n" + "\n".join(rows))
         self.refused(head + "\n begin" + " p1" * 6000)
 
     def test_beside(self):
