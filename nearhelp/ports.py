@@ -41,8 +41,11 @@ class Ports:
 
     def others(self, side):
         """The ascending tuple of the other sides of the port of a side."""
-        name = self.kind(side)
-        return tuple([other for other in self.sides() if other != side and self._names[other] == name])
+        return tuple([other for other in self.sides_of(self.kind(side)) if other != side])
+
+    def sides_of(self, name):
+        """The ascending list of the sides of the port with a name."""
+        return [side for side in self.sides() if self._names[side] == name]
 
     def text(self):
         """The text of these ports."""

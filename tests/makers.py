@@ -1,7 +1,10 @@
-"""Ports, conditions, steps, processes and libraries by a seed, the same ones on each run."""
+"""Ports, conditions, steps, processes, libraries and nets by a seed, the same ones on each run."""
 
-from nearhelp.processes import Process
+from nearhelp.errors import TooMany
+from nearhelp.libraries import Library
+from nearhelp.nets import Net
 from nearhelp.ports import Ports
+from nearhelp.processes import Process
 
 NAMES = ["a", "b", "cup", "kettles"]
 
@@ -85,3 +88,100 @@ def all_values(numbers):
     for _, top in numbers:
         values = [row + (value,) for row in values for value in range(top + 1)]
     return values
+
+
+def plain_processes(ports):
+    """Processes with a beginning for each side of the ports at which this side alone is due."""
+    sides = ports.sides()
+    begins = [[[side] for side in sides[at:at + 3]] for at in range(0, len(sides), 3)]
+    return [Process(ports, "plain" + "abcd"[at], [], begin, [], []) for at, begin in enumerate(begins)]
+
+
+def make_helper(rng, ports, name):
+    """A process that refuses some of what is due as long as something else is."""
+    begins = [[rng.choice(ports.sides()) for _ in range(rng.randint(1, 4))] for _ in range(rng.randint(1, 2))]
+    refuses = []
+    for begin in begins:
+        for _ in range(rng.randint(0, 2)):
+            refuses.append((rng.choice(begin), ("above", ("due", rng.choice(begin)), rng.choice([0, 0, 1]))))
+    return Process(ports, name, [], begins, [], refuses)
+
+
+def make_library(rng, most_ports=2, plain=True, helping=True):
+    """A library, of which all sides are plain or perhaps not, with processes that help or any ones."""
+    while True:
+        ports = make_ports(rng, most_ports)
+        processes = plain_processes(ports) if plain else []
+        for name in ["x", "y", "z"][:rng.randint(1, min(3, 6 - len(processes)))]:
+            if helping:
+                processes.append(make_helper(rng, ports, name))
+            else:
+                processes.append(Process(ports, name, *make_parts(rng, ports)[1:]))
+        try:
+            return Library(ports, processes)
+        except TooMany:
+            continue
+
+
+def port_sides(kind):
+    name, sides = kind
+    return [f"{name}{digit}" for digit in range(1, sides + 1)]
+
+
+def make_net(rng, library, most=8):
+    """A net of a library whose sides are all plain: some hands, and plain ones as far as they are needed."""
+    holders = [holder for standing in library.standings() for holder in library.holders(standing)]
+    hands = [rng.choice(holders) for _ in range(rng.randint(1, most))]
+    while True:
+        meetings = []
+        for kind in library.ports.kinds:
+            rows = {side: [] for side in port_sides(kind)}
+            for hand, (name, index) in enumerate(hands):
+                for side in library.book(name).standing(index)[0]:
+                    if side in rows:
+                        rows[side].append(hand)
+            longest = max(len(row) for row in rows.values())
+            for side, row in rows.items():
+                while len(row) < longest:
+                    row.append(len(hands))
+                    hands.append(library.holders(((side,), ()))[0])
+            meetings += match(rng, kind[0], list(rows.values()))
+        if None not in meetings:
+            rng.shuffle(meetings)
+            return Net(library, hands, meetings)
+        hands += [library.holders(((side,), ()))[0] for side in library.ports.sides()]
+
+
+def match(rng, name, rows):
+    """Meetings of a port with these hands at its sides, or None where some hand would meet itself."""
+    for _ in range(50):
+        for row in rows:
+            rng.shuffle(row)
+        found = list(zip(*rows))
+        if all(len(set(hands)) == len(hands) for hands in found):
+            return [(name, hands) for hands in found]
+    return [None]
+
+
+def make_ranked_library(rng, most_ports=2, plain=True):
+    """A library whose processes help at one side once so many of their ends at others have gone: of all answers."""
+    while True:
+        ports = make_ports(rng, most_ports)
+        processes = plain_processes(ports) if plain else []
+        for name in ["x", "y", "z"][:rng.randint(1, min(3, 6 - len(processes)))]:
+            side, other = rng.sample(ports.sides(), 2)
+            many = rng.randint(1, 3)
+            refuses = [(side, ("above", ("due", other), rng.choice([0, many - 1, many - 1])))]
+            processes.append(Process(ports, name, [], [[side] + [other] * many], [], refuses))
+        try:
+            return Library(ports, processes)
+        except TooMany:
+            continue
+
+
+def make_any_library(rng):
+    """A library of one of the kinds above."""
+    plain = rng.random() < 0.6
+    if rng.random() < 0.5:
+        return make_ranked_library(rng, rng.randint(1, 3), plain)
+    return make_library(rng, rng.randint(1, 4) if not plain else 2, plain, rng.random() < 0.6)

@@ -1,8 +1,8 @@
-"""The examples of the interface, as they stand there."""
+"""The examples of the interface of the stages 1 to 7."""
 
 import unittest
 
-from nearhelp.errors import NearError
+from tests.examples import ExamplesCase
 
 PORTS = r"""
 >>> from nearhelp.ports import Ports, read_ports
@@ -182,37 +182,7 @@ raises InvalidProcesses
 """
 
 
-def examples(text):
-    """The pairs of a source and what is told below it, or None."""
-    lines = text.strip("\n").split("\n") + [">>> "]
-    for line, below in zip(lines, lines[1:]):
-        if line.startswith(">>> "):
-            yield line[4:], None if below.startswith(">>> ") else below
-
-
-def told_error(error, wanted):
-    """An error as the examples tell it, with its attribute or by its name alone."""
-    name = type(error).__name__
-    values = ", ".join([repr(value) for value in vars(error).values()])
-    return f"raises {name}({values})" if "(" in wanted else f"raises {name}"
-
-
-class ExamplesTest(unittest.TestCase):
-    def check(self, text):
-        space, told = {}, 0
-        for source, wanted in examples(text):
-            if wanted is None:
-                exec(source, space)
-                continue
-            told += 1
-            with self.subTest(source=source):
-                try:
-                    got = repr(eval(source, space))
-                except NearError as error:
-                    got = told_error(error, wanted)
-                self.assertEqual(got, wanted)
-        self.assertGreater(told, 1)
-
+class ExamplesTest(ExamplesCase):
     def test_ports(self):
         self.check(PORTS)
 

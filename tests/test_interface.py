@@ -6,12 +6,18 @@ import unittest
 
 from nearhelp.books import Book
 from nearhelp.codes import compiled
+from nearhelp.counts import is_counts, laid
 from nearhelp.hands import begin_state, refused, standing, step
 from nearhelp.libraries import Library, read_library
 from nearhelp.machine import run_code
+from nearhelp.nets import Net, surely
 from nearhelp.ports import Ports, read_ports
 from nearhelp.processes import Process, read_process
+from nearhelp.rounds import all_rounds, order_by, play
+from nearhelp.runs import Run
+from nearhelp.tasks import denial, is_denial, is_least, is_solution, is_strict, least, solution, strict
 from nearhelp.words import condition_text, is_condition, is_steps, read_condition
+from tests.judged import lists_in
 
 FUNCTIONS = {
     "ports": {"read_ports": "text"},
@@ -27,6 +33,13 @@ FUNCTIONS = {
     "codes": {"compiled": "process side"},
     "machine": {"run_code": "process code state"},
     "libraries": {"read_library": "text"},
+    "nets": {"surely": "net stopped"},
+    "rounds": {"order_by": "run policy", "play": "run policy", "all_rounds": "run"},
+    "tasks": {
+        "solution": "rows sums", "denial": "rows sums", "is_solution": "rows sums value", "is_denial": "rows sums value",
+        "strict": "rows", "is_strict": "rows value", "least": "rows sums costs", "is_least": "rows sums costs value",
+    },
+    "counts": {"is_counts": "library value", "laid": "library counts"},
 }
 CLASSES = {
     ("ports", "Ports"): {"__init__": "kinds", "sides": "", "kind": "side", "others": "side", "__eq__": "other", "text": ""},
@@ -38,6 +51,14 @@ CLASSES = {
     ("libraries", "Library"): {
         "__init__": "ports processes", "names": "", "book": "name", "standings": "", "holders": "standing",
         "__eq__": "other", "text": "",
+    },
+    ("nets", "Net"): {
+        "__init__": "library hands meetings", "hands": "", "meetings": "", "standing": "hand", "due": "hand", "ready": "",
+        "able": "", "__eq__": "other", "ties": "hand",
+    },
+    ("runs", "Run"): {
+        "__init__": "net", "state": "hand", "standing": "hand", "unheld": "", "ready": "", "able": "", "stopped": "",
+        "waiting": "", "held": "", "stop": "hand", "hold": "chosen", "greedy": "order",
     },
 }
 PORTS = Ports([("q", 2), ("p", 2)])
@@ -86,11 +107,44 @@ def calls():
     ]
 
 
-def lists_in(value):
-    """All lists at any depth within a value."""
-    if not isinstance(value, (list, tuple)):
-        return []
-    return ([value] if isinstance(value, list) else []) + [found for item in value for found in lists_in(item)]
+def make_net():
+    """A row of four hands, in which the meetings are held one after the other."""
+    ports = Ports([("p", 2)])
+    x = Process(ports, "x", [], [["p1", "p2"]], [], [("p1", ("above", ("due", "p2"), 0))])
+    library = Library(ports, [x, Process(ports, "y", [], [["p1"], ["p2"]], [], [])])
+    meetings = [("p", (0, 1)), ("p", (1, 2)), ("p", (2, 3))]
+    return Net(library, [("y", 0), ("x", 1), ("x", 1), ("y", 1)], meetings)
+
+
+def net_calls():
+    """Calls of everything of the stages 8 to 11, likewise."""
+    net = make_net()
+    library, run = net.library, Run(net)
+    shown = lambda found: [found.hands(), found.meetings()]
+    counts = [((("p1",), ()), 1), ((("p2",), ()), 1)]
+    task, none = {"rows": [[1, 2], [1, -1]], "sums": [5, -1]}, {"rows": [[1], [1]], "sums": [0, 1]}
+    costs = {**task, "costs": [1, 1]}
+    run.hold([0])
+    return [
+        (lambda library, hands, meetings: shown(Net(library, hands, meetings)),
+         {"library": library, "hands": net.hands(), "meetings": net.meetings()}),
+        (net.hands, {}), (net.meetings, {}), (net.standing, {"hand": 1}), (net.due, {"hand": 1}), (net.ready, {}),
+        (net.able, {}), (net.ties, {"hand": 2}), (surely, {"net": net, "stopped": [3]}),
+        (lambda net: Run(net).held(), {"net": net}), (run.state, {"hand": 1}), (run.standing, {"hand": 1}),
+        (run.unheld, {}), (run.ready, {}), (run.able, {}), (run.stopped, {}), (run.waiting, {}), (run.held, {}),
+        (lambda hand: Run(net).stop(hand), {"hand": 1}), (lambda chosen: Run(net).hold(chosen), {"chosen": [0]}),
+        (run.greedy, {"order": [0, 1, 2]}), (order_by, {"run": run, "policy": "few"}),
+        (lambda run, policy: play(Run(run.net), policy), {"run": run, "policy": "turned"}), (all_rounds, {"run": run}),
+        (solution, task), (denial, none), (is_solution, {**task, "value": ([1, 2], 1)}),
+        (is_denial, {**none, "value": [1, -1]}), (strict, {"rows": [[1, -1]]}),
+        (is_strict, {"rows": [[1, -1]], "value": ([1, 1], [0])}), (least, costs),
+        (is_least, {**costs, "value": ([1, 2], 1, [2, 1], 3)}), (is_counts, {"library": library, "value": counts}),
+        (lambda library, counts: shown(laid(library, counts)), {"library": library, "counts": counts}),
+    ]
+
+
+def all_calls():
+    return calls() + net_calls()
 
 
 class InterfaceTest(unittest.TestCase):
@@ -125,26 +179,31 @@ class InterfaceTest(unittest.TestCase):
         self.assertIs(type(vars(Book(process))["process"]), Process)
         library = vars(Library(PORTS, [process]))
         self.assertEqual([type(library["ports"]), type(library["most"])], [Ports, int])
+        net = make_net()
+        self.assertIs(type(vars(net)["library"]), Library)
+        run = vars(Run(net))
+        self.assertIs(run["net"], net)
+        self.assertIs(type(run["rounds"]), int)
 
 
 class CallsTest(unittest.TestCase):
     def test_by_position_and_by_name(self):
-        for call, named in calls():
+        for call, named in all_calls():
             self.assertEqual(repr(call(*named.values())), repr(call(**named)))
         self.assertEqual(read_library(TEXT).text(), TEXT)
 
     def test_arguments_stay_unchanged(self):
-        for call, named in calls():
+        for call, named in all_calls():
             told = {name: repr(value) for name, value in named.items()}
             call(**named)
             self.assertEqual({name: repr(value) for name, value in named.items()}, told)
 
     def test_equal_answers_of_equal_objects(self):
-        for (call, named), (other, same) in zip(calls(), calls()):
+        for (call, named), (other, same) in zip(all_calls(), all_calls()):
             self.assertEqual(repr(call(**named)), repr(other(**same)))
 
     def test_lists_are_new_on_each_call_at_any_depth(self):
-        for call, named in calls():
+        for call, named in all_calls():
             first = call(**named)
             wanted = repr(first)
             found = lists_in(first)
@@ -159,6 +218,8 @@ class CallsTest(unittest.TestCase):
             self.assertIn(type(found), [list, tuple, str, int, bool])
             if type(found) is tuple:
                 self.assertEqual(lists_in(found), [])
+        for call, named in net_calls():
+            self.assertIn(type(call(**named)), [list, tuple, bool, type(None)])
 
 
 if __name__ == "__main__":

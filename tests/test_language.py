@@ -27,6 +27,7 @@ builtins compile copyright credits delattr dir eval exec exit gc getattr globals
 locals methodcaller os quit setattr super type vars sys""".split()
 BARRED_WORDS = """type typing typing_extensions enum Enum IntEnum StrEnum Flag IntFlag Generic Protocol ABC ABCMeta
 namedtuple NamedTuple TypedDict TYPE_CHECKING abstractmethod dataclass overload contextmanager""".split()
+OUTSIDE = {"math": ["gcd"]}
 AT_ONCE = ("zip", "enumerate", "reversed", "range")
 VIEWS = ("items", "keys", "values")
 
@@ -50,12 +51,18 @@ class File:
         return [node for node in self.nodes if isinstance(node, kinds)]
 
     def imports(self):
-        """The pairs of a file and a name that is imported from it."""
-        return [(node.module.split(".")[1] + ".py", item.name) for node in self.all_of(ast.ImportFrom) for item in node.names]
+        """The pairs of a file of the package and a name that is imported from it."""
+        rows = [node for node in self.all_of(ast.ImportFrom) if node.module not in OUTSIDE]
+        return [(node.module.split(".")[1] + ".py", item.name) for node in rows for item in node.names]
+
+    def outside(self):
+        """The names that are imported from Python's library."""
+        rows = [node for node in self.all_of(ast.ImportFrom) if node.module in OUTSIDE]
+        return [item.name for node in rows for item in node.names]
 
     def bound(self):
         """The names bound at module level."""
-        found = [name for _, name in self.imports()]
+        found = [name for _, name in self.imports()] + self.outside()
         for node in self.tree.body:
             if isinstance(node, (ast.FunctionDef, ast.ClassDef)):
                 found.append(node.name)
@@ -109,14 +116,28 @@ class LanguageTest(unittest.TestCase):
             self.assertEqual(kinds, sorted(kinds, reverse=True), file.name)
             self.assertEqual(sum(kinds), len(file.all_of(ast.ImportFrom)))
             for node in file.all_of(ast.ImportFrom):
-                self.assertEqual([node.level, node.module.split(".")[0]], [0, "nearhelp"])
+                self.assertEqual(node.level, 0)
                 self.assertEqual([item.asname for item in node.names if item.asname], [])
+                if node.module in OUTSIDE:
+                    self.assertEqual([item.name for item in node.names if item.name not in OUTSIDE[node.module]], [])
+                else:
+                    self.assertEqual(node.module.split(".")[0], "nearhelp")
             for other, name in file.imports():
                 self.assertIn(name, names[other].bound())
                 self.assertNotIn((other, name), [row for row in names[other].imports()])
                 self.assertNotIn(name, [row[1] for row in names[other].imports()])
                 used = [node for node in file.all_of(ast.Name) if node.id == name]
                 self.assertNotEqual(used, [], f"{file.name} imports {name}")
+
+    def test_names_from_outside_are_called(self):
+        for file in FILES:
+            self.assertEqual(set(file.outside()) & set(file.locals()), set())
+            for node in file.all_of(ast.Name):
+                if node.id in file.outside():
+                    parent = file.parents[node]
+                    self.assertIsInstance(parent, ast.Call)
+                    self.assertIs(parent.func, node)
+                    self.assertEqual([parent.keywords, names_of(parent.args).count("Starred")], [[], 0])
 
     def test_no_circles_of_imports(self):
         left = {file.name: {other for other, _ in file.imports()} for file in FILES}
@@ -177,7 +198,7 @@ class LanguageTest(unittest.TestCase):
     def test_names(self):
         every = dir(builtins)
         for file in FILES:
-            own = [node.name for node in file.classes] + [name for _, name in file.imports()]
+            own = [node.name for node in file.classes] + [name for _, name in file.imports()] + file.outside()
             for name in file.locals():
                 self.assertNotIn(name, own, file.name)
             functions = [node.name for node in file.functions if isinstance(file.parents[node], ast.Module)]
