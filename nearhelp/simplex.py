@@ -33,7 +33,7 @@ class Tableau:
             numbers[place] = row[-1]
         return numbers[:self.columns]
 
-    def lower(self, costs):
+    def settle(self, costs):
         """Turn until no column lowers the cost of the solution, the costs being those of all columns."""
         entering = self._entering(costs)
         while entering is not None:
@@ -98,7 +98,7 @@ def solved(rows, sums):
     """A solution of a task and None, or None and a denial."""
     costs = _helping_costs(rows)
     tableau = Tableau(rows, sums)
-    tableau.lower(costs)
+    tableau.settle(costs)
     if tableau.excess() > 0:
         return (None, lowest([-price for price in tableau.prices(costs)]))
     return (_over(tableau.column_numbers(), tableau.bottom), None)
@@ -107,10 +107,10 @@ def solved(rows, sums):
 def cheapest(rows, sums, costs):
     """A solution that costs least, and the prices of the rows that show it, of a task that has a solution."""
     tableau = Tableau(rows, sums)
-    tableau.lower(_helping_costs(rows))
+    tableau.settle(_helping_costs(rows))
     tableau.turn_helping_out()
     all_costs = list(costs) + [0 for _ in rows]
-    tableau.lower(all_costs)
+    tableau.settle(all_costs)
     return _over(tableau.column_numbers(), tableau.bottom) + _over(tableau.prices(all_costs), tableau.bottom)
 
 

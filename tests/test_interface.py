@@ -8,14 +8,18 @@ from nearhelp.books import Book
 from nearhelp.codes import compiled
 from nearhelp.counts import is_counts, laid
 from nearhelp.hands import begin_state, refused, standing, step
+from nearhelp.joins import is_joined, joined, left, own_net, struck
 from nearhelp.libraries import Library, read_library
 from nearhelp.machine import run_code
 from nearhelp.nets import Net, surely
 from nearhelp.ports import Ports, read_ports
 from nearhelp.processes import Process, read_process
+from nearhelp.ranks import falls, far, farthest, ranks
 from nearhelp.rounds import all_rounds, order_by, play
 from nearhelp.runs import Run
+from nearhelp.stills import ever, is_ever, is_still, is_weights, still, still_net, value_of, weights
 from nearhelp.tasks import denial, is_denial, is_least, is_solution, is_strict, least, solution, strict
+from nearhelp.verdicts import is_verdict, verdict
 from nearhelp.words import condition_text, is_condition, is_steps, read_condition
 from tests.judged import lists_in
 
@@ -40,6 +44,17 @@ FUNCTIONS = {
         "strict": "rows", "is_strict": "rows value", "least": "rows sums costs", "is_least": "rows sums costs value",
     },
     "counts": {"is_counts": "library value", "laid": "library counts"},
+    "joins": {
+        "joined": "library", "is_joined": "library value", "left": "library", "struck": "library",
+        "own_net": "library standing",
+    },
+    "stills": {
+        "still": "library", "weights": "library", "is_still": "library value", "is_weights": "library value",
+        "value_of": "library weights standing", "still_net": "library counts", "ever": "library",
+        "is_ever": "library value",
+    },
+    "ranks": {"falls": "library", "ranks": "library", "far": "library standing", "farthest": "library"},
+    "verdicts": {"verdict": "library", "is_verdict": "library value"},
 }
 CLASSES = {
     ("ports", "Ports"): {"__init__": "kinds", "sides": "", "kind": "side", "others": "side", "__eq__": "other", "text": ""},
@@ -143,8 +158,32 @@ def net_calls():
     ]
 
 
+def answer_calls():
+    """Calls of everything of the stages 11 to 13, likewise."""
+    either = read_library("port p 2\nprocess aid\n begin p1 p2 p2\n refuse p1 if due p2 above 1")
+    both = read_library("port p 2\nprocess aid\n begin p1 p2 p2\n refuse p1 if due p2 above 0")
+    order = make_net().library
+    told, last = ([("p1", 1), ("p2", 1)], [("p", 2)]), (("p2",), ())
+    ring = [((("p1", "p2"), ("p1",)), 3)]
+    shown = lambda found: [found.hands(), found.meetings()]
+    found = [
+        (lambda library, standing: shown(own_net(library, standing)), {"library": either, "standing": last}),
+        (is_still, {"library": both, "value": ring}), (is_weights, {"library": either, "value": told}),
+        (value_of, {"library": either, "weights": told, "standing": last}),
+        (lambda library, counts: shown(still_net(library, counts)), {"library": both, "counts": ring}),
+        (is_ever, {"library": either, "value": ([], told)}), (far, {"library": order, "standing": last}),
+        (farthest, {"library": order}),
+    ]
+    for library in [either, both, order]:
+        for call in [joined, left, struck, still, weights, ever, falls, ranks, verdict]:
+            found.append((call, {"library": library}))
+        found.append((is_joined, {"library": library, "value": joined(library)}))
+        found.append((is_verdict, {"library": library, "value": verdict(library)}))
+    return found
+
+
 def all_calls():
-    return calls() + net_calls()
+    return calls() + net_calls() + answer_calls()
 
 
 class InterfaceTest(unittest.TestCase):
@@ -220,6 +259,8 @@ class CallsTest(unittest.TestCase):
                 self.assertEqual(lists_in(found), [])
         for call, named in net_calls():
             self.assertIn(type(call(**named)), [list, tuple, bool, type(None)])
+        for call, named in answer_calls():
+            self.assertIn(type(call(**named)), [list, tuple, bool, int, type(None)])
 
 
 if __name__ == "__main__":
