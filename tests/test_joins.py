@@ -196,6 +196,9 @@ class JoinedTest(JudgedCase):
             counts, signs = answer
             more = ([(row, 3 * number) for row, number in counts], [(side, 7 * sign) for side, sign in signs])
             self.judged(lambda value: is_joined(library, value), lambda value: judges.is_joined(library, value), more)
+        for sign, right in [(3, True), (1, True), (0, False), (-1, False), (-3, False)]:
+            signs = [("p1", 0), ("p2", 0), ("q1", sign), ("q2", -sign)]
+            self.assertIs(is_joined(NOBODY, ([(A, 1), (C, 1)], signs)), right)
         great = 10 ** 399
         signs = [("p1", 0), ("p2", 0), ("q1", great), ("q2", -great)]
         self.assertTrue(is_joined(NOBODY, ([(A, great), (C, great)], signs)))

@@ -120,6 +120,11 @@ class StillTest(StillsCase):
         for library, value in [(BOTH, ever(BOTH)), (BOTH, ([(RING, 7)], told)), (EITHER, ([], TOLD)), (EITHER, ever(EITHER)), (CLOSED, ever(CLOSED))]:
             self.judged(lambda other: is_ever(library, other), lambda other: judges.is_ever(library, other), value)
         self.assertIs(is_ever(BOTH, ([], TOLD)), False)
+        # LONG has this value, the other ones are right.
+        for worth in [2, 1, 0, -1, -2]:
+            value = ([(RING, 1)], ([("p1", 5 - worth), ("p2", worth)], [("p", 5)]))
+            self.assertEqual(value_of(BOTH, value[1], LONG), worth)
+            self.assertIs(is_ever(BOTH, value), worth > 0)
         great = 10 ** 399
         self.assertIs(is_ever(BOTH, ([(RING, great)], ([("p1", great), ("p2", great)], [("p", 2 * great)]))), True)
 

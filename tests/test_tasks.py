@@ -141,6 +141,28 @@ class SolutionTest(TasksCase):
                 self.assertTrue(self.task_judged(rows, [sum(row) for row in rows]))
                 self.task_judged(rows, [rng.randint(-top, top) for _ in rows])
 
+    def test_tasks_on_which_careless_turns_never_end(self):
+        tasks = [
+            ([[-1, 3, 4, -5, 2, 0, 5], [2, -5, 4, -5, -4, -1, 0], [-4, 0, 4, 3, -5, 4, -5], [-5, 0, 5, -3, 3, 5, 5]], [0] * 4),
+            ([[-2, 4, -3, 6, -7, 6, -2, 0, -3], [0, 0, -4, 4, -2, -6, -2, 5, 3], [9, -2, -1, 9, -9, -9, 3, -9, -5],
+              [2, 2, -5, 1, -6, -8, -4, 9, 9], [0, -6, 0, -9, -5, 1, 0, -2, 9]], [0] * 5),
+            ([[2, 0, -2, -5, -4, -4, 4, 5], [-3, 5, -2, 2, 5, -5, -3, 5], [3, -2, -3, 5, 0, -4, 3, -4],
+              [-3, 0, -5, -2, 3, -1, -1, 5], [1] * 8], [0, 0, 0, 0, 1]),
+            ([[9, -2, 0, -9, 6, 9, 9, -7, -2], [-4, -4, 2, -1, 8, -3, -5, -9, 2], [-1, 3, 1, -9, 8, 8, -7, 3, -8],
+              [-7, -1, -7, -9, 2, 3, 2, 2, 9], [1] * 9], [0, 0, 0, 0, 1]),
+            ([[2, 1, 1, 3, 2, -1, -2, 0, -2], [2, 2, -3, 3, -3, -2, -2, 1, -2], [2, 1, 0, 1, -3, 0, 1, -3, -3],
+              [2, -1, 3, 0, 1, 1, -1, 2, -1], [2, -3, -2, 0, 0, -1, -2, 2, 2]], [0] * 5),
+        ]
+        for rows, sums in tasks:
+            self.task_judged(rows, sums)
+            self.strict_judged(rows)
+
+    def test_a_bottom_of_zero(self):
+        self.assertIs(is_solution([[1, 2]], [3], ([0, 0], 0)), False)
+        self.assertIs(is_solution([[1, -1]], [3], ([1, 1], 0)), False)
+        self.assertIs(is_least([[1, 2]], [3], [1, 1], ([0, 0], 0, [0], 1)), False)
+        self.assertIs(is_least([[1, 2]], [3], [1, 1], ([3, 0], 1, [0], 0)), False)
+
     def test_judged(self):
         cases = [([[1, 2], [1, -1]], [5, -1]), ([[2, 3]], [1]), ([[1, 0, 3], [0, 2, 1], [1, 1, 1]], [4, 3, 3])]
         for rows, sums in cases:
@@ -228,6 +250,19 @@ class LeastTest(TasksCase):
             self.least_judged(rows, sums, costs)
         self.assertGreater(found, 100)
 
+    def test_small_tasks_of_whose_solutions_few_numbers_are_above_zero(self):
+        rng = random.Random(1132)
+        for rows, sums, costs in [
+            ([[0, -2], [-1, -3]], [0, -1], [4, 2]), ([[0, -3, 0], [1, -2, -1]], [0, -1], [4, 3, 3]),
+            ([[0, 1, -2], [-1, 0, -1], [2, 2, 1]], [-1, -1, 3], [1, 4, 1]),
+        ]:
+            self.least_judged(rows, sums, costs)
+        for _ in range(1500):
+            rows = make_rows(rng, rng.randint(1, 4), rng.randint(2, 6), 3)
+            numbers = [rng.choice([0, 0, 1]) for _ in rows[0]]
+            sums = [judges.dot(row, numbers) for row in rows]
+            self.least_judged(rows, sums, [rng.randint(0, 4) for _ in numbers])
+
     def test_rows_that_say_the_same(self):
         rng = random.Random(1131)
         for _ in range(60):
@@ -240,12 +275,19 @@ class LeastTest(TasksCase):
             self.least_judged(rows, sums, [rng.randint(0, 3) for _ in numbers])
 
     def test_judged(self):
-        for rows, sums, costs in [([[1, 1]], [3], [2, 1]), ([[2, 3, 0], [0, 1, 1]], [1, 2], [3, 4, 1]), ([[1, 1]], [3], [0, 0])]:
+        for rows, sums, costs in [
+            ([[1, 1]], [3], [2, 1]), ([[2, 3, 0], [0, 1, 1]], [1, 2], [3, 4, 1]), ([[1, 1]], [3], [0, 0]),
+            ([[1, 1], [1, -1]], [2, 0], [1, 1]), ([[1, 1], [1, -1]], [0, 0], [1, 1]),
+        ]:
             for told in [(rows, sums, costs), judges.as_tuples((rows, sums, costs))]:
                 self.judged(
                     lambda value: is_least(*told, value), lambda value: judges.is_least(rows, sums, costs, value),
                     least(rows, sums, costs),
                 )
+        # The sums say that this costs as little as any, but a column is worth more than its cost.
+        self.assertTrue(is_least([[1, 1], [1, -1]], [2, 0], [1, 1], ([1, 1], 1, [1, 0], 1)))
+        self.assertFalse(is_least([[1, 1], [1, -1]], [2, 0], [1, 1], ([1, 1], 1, [1, 5], 1)))
+        self.assertFalse(is_least([[1, 1]], [3], [2, 1], ([3, 0], 1, [2], 1)))
         great = 10 ** 399
         self.assertTrue(is_least([[1, 1]], [3], [2, 1], ([0, 3 * great], great, [great], great)))
         self.assertFalse(is_least([[1, 1]], [3], [2, 1], ([0, 3 * great], great, [great], great + 1)))
