@@ -67,7 +67,8 @@ def balance_rows(ports, standings):
     rows = []
     for name, _ in ports.kinds:
         sides = ports.sides_of(name)
-        rows.extend([[lot.count(side) - lot.count(sides[0]) for lot, _ in standings] for side in sides[1:]])
+        first = [lot.count(sides[0]) for lot, _ in standings]
+        rows.extend([[lot.count(side) - many for (lot, _), many in zip(standings, first)] for side in sides[1:]])
     return rows
 
 

@@ -18,4 +18,6 @@ def lowest(numbers):
     common = 0
     for number in numbers:
         common = gcd(common, number)
+        if common == 1:
+            return list(numbers)
     return [number // common for number in numbers] if common > 0 else list(numbers)

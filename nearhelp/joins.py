@@ -6,14 +6,14 @@ from nearhelp.counts import is_counts, laid
 from nearhelp.errors import InvalidStanding, NotLeft
 from nearhelp.integers import lowest
 from nearhelp.nets import Net
-from nearhelp.tasks import strict
+from nearhelp.simplex import strict_pair
 
 
 def joined(library):
     """Any joining, in whose counts no integer above 1 divides all numbers."""
     ports = library.ports
     standings = library.standings()
-    numbers, told = strict(balance_rows(ports, standings))
+    numbers, told = strict_pair(balance_rows(ports, standings))
     return (items_by(standings, lowest(numbers)), listed(ports.sides(), told_signs(ports, lowest(told))))
 
 

@@ -15,10 +15,11 @@ class Ports:
         if not _are_kinds(kinds):
             raise InvalidPorts(kinds)
         self.kinds = tuple(kinds)
-        self._names = {}
-        for name, sides in self.kinds:
-            for digit in range(1, sides + 1):
-                self._names[f"{name}{digit}"] = name
+        # All of this is asked for so often that it is not worked out anew each time.
+        self._names = {side: name for name, many in self.kinds for side in _sides_of(name, many)}
+        self._sides = sorted(self._names)
+        self._sides_by_name = {name: _sides_of(name, many) for name, many in self.kinds}
+        self._others = {side: _without(self._sides_by_name[self._names[side]], side) for side in self._sides}
 
     def __eq__(self, other):
         if not isinstance(other, Ports):
@@ -27,7 +28,7 @@ class Ports:
 
     def sides(self):
         """The ascending list of all sides."""
-        return sorted(self._names)
+        return list(self._sides)
 
     def has(self, value):
         """Whether any value is a side of these ports."""
@@ -41,11 +42,13 @@ class Ports:
 
     def others(self, side):
         """The ascending tuple of the other sides of the port of a side."""
-        return tuple([other for other in self.sides_of(self.kind(side)) if other != side])
+        if not self.has(side):
+            raise InvalidSide(side)
+        return self._others[side]
 
     def sides_of(self, name):
         """The ascending list of the sides of the port with a name."""
-        return [side for side in self.sides() if self._names[side] == name]
+        return list(self._sides_by_name[name])
 
     def text(self):
         """The text of these ports."""
@@ -63,6 +66,14 @@ def read_ports(text):
     if ports.text() != text:
         raise InvalidText(text)
     return ports
+
+
+def _sides_of(name, many):
+    return [f"{name}{digit}" for digit in range(1, many + 1)]
+
+
+def _without(sides, side):
+    return tuple([other for other in sides if other != side])
 
 
 def _are_kinds(value):

@@ -7,20 +7,29 @@ from nearhelp.checks import are_told, is_pair
 from nearhelp.counts import is_counts, laid
 from nearhelp.errors import InvalidCounts, InvalidStanding, InvalidWeights
 from nearhelp.integers import lowest
-from nearhelp.simplex import solved
-from nearhelp.tasks import strict
+from nearhelp.simplex import solved, strict_pair
 
 
 def still(library):
     """Any still counts of which no integer above 1 divides all numbers, None if there are none."""
-    found, _ = _solved(library)
-    return None if found is None else _counts_by(library, found[0])
+    return still_or_weights(library)[0]
 
 
 def weights(library):
     """Any weights by which each standing has a value of at least 1, in lowest terms, None if there are none."""
-    _, denied = _solved(library)
-    return None if denied is None else _weights_by(library, denied)
+    return still_or_weights(library)[1]
+
+
+def still_or_weights(library):
+    """Still counts and None, or None and weights by which each standing has a value of at least 1."""
+    rows = _rows(library)
+    rest = len(library.ports.kinds)
+    # Still counts are not empty.
+    some = [1 for _ in library.standings()] + [0 for _ in range(rest)]
+    found, denied = solved(rows + [some], [0 for _ in rows] + [1])
+    if found is None:
+        return (None, _weights_by(library, denied))
+    return (_counts_by(library, found[0]), None)
 
 
 def is_still(library, value):
@@ -52,7 +61,7 @@ def still_net(library, counts):
 
 def ever(library):
     """Any counts of all standings that nets that stand still can have, with weights that strike all others."""
-    numbers, told = strict(_rows(library))
+    numbers, told = strict_pair(_rows(library))
     return (_counts_by(library, numbers), _weights_by(library, told))
 
 
@@ -76,20 +85,16 @@ def _rows(library):
     ports = library.ports
     standings = library.standings()
     rows = [row + [0 for _ in ports.kinds] for row in balance_rows(ports, standings)]
+    closed = [refused_ends(standing) for standing in standings]
     for name, _ in ports.kinds:
         sides = ports.sides_of(name)
-        row = [count_ends([(standing, 1)], sides[0]) - count_refused([(standing, 1)], sides) for standing in standings]
+        row = [lot.count(sides[0]) - _count_of(ends, sides) for (lot, _), ends in zip(standings, closed)]
         rows.append(row + [1 if other == name else 0 for other, _ in ports.kinds])
     return rows
 
 
-def _solved(library):
-    """The numbers of still counts and None, or None and the integers of the rows that show that there are none."""
-    rows = _rows(library)
-    rest = len(library.ports.kinds)
-    # Still counts are not empty.
-    some = [1 for _ in library.standings()] + [0 for _ in range(rest)]
-    return solved(rows + [some], [0 for _ in rows] + [1])
+def _count_of(ends, sides):
+    return len([end for end in ends if end in sides])
 
 
 def _counts_by(library, numbers):

@@ -3,7 +3,7 @@
 from nearhelp.checks import are_integers, is_from, is_list, is_pair
 from nearhelp.errors import InvalidCosts, InvalidRows, InvalidSums, NoSolution
 from nearhelp.integers import column, product_sum
-from nearhelp.simplex import cheapest, solved
+from nearhelp.simplex import cheapest, solved, strict_pair
 
 
 def solution(rows, sums):
@@ -35,20 +35,7 @@ def is_denial(rows, sums, value):
 def strict(rows):
     """Any strict pair."""
     _check_rows(rows)
-    numbers = [0 for _ in rows[0]]
-    told = [0 for _ in rows]
-    for at in range(len(numbers)):
-        if numbers[at] > 0 or product_sum(column(rows, at), told) > 0:
-            continue
-        # Either this column can have a number above 0, beside others, or some integers of the rows say that it can't.
-        found, denied = solved(rows, [-row[at] for row in rows])
-        if found is None:
-            told = _added(told, denied)
-        else:
-            more, bottom = found
-            numbers = _added(numbers, more)
-            numbers[at] += bottom
-    return (numbers, told)
+    return strict_pair(rows)
 
 
 def is_strict(rows, value):
@@ -122,7 +109,3 @@ def _is_solution(rows, sums, numbers, bottom):
 def _worths(rows, told):
     """For each column, the sum of its items, each times the integer of its row."""
     return [product_sum(column(rows, at), told) for at in range(len(rows[0]))]
-
-
-def _added(first, second):
-    return [one + other for one, other in zip(first, second)]

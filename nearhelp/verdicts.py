@@ -6,7 +6,7 @@ from nearhelp.counts import is_counts
 from nearhelp.errors import NoNet
 from nearhelp.joins import joined, left
 from nearhelp.ranks import falls_of, ranks_by
-from nearhelp.stills import is_still, is_weights, still, weights
+from nearhelp.stills import is_still, is_weights, still_or_weights
 
 
 def verdict(library):
@@ -14,7 +14,7 @@ def verdict(library):
     counts, signs = joined(library)
     if not counts:
         raise NoNet()
-    stands = still(library)
+    stands, given = still_or_weights(library)
     if stands is not None:
         return ("ever", stands)
     standings = [standing for standing, _ in counts]
@@ -22,7 +22,7 @@ def verdict(library):
     endless = [standing for standing in standings if is_blocked(library.ports, standing, falls[-1])]
     if endless:
         rows = [(side, _first_refusing(endless, side)) for side in falls[-1]]
-        return ("logarithm", weights(library), (counts, rows, endless[0]))
+        return ("logarithm", given, (counts, rows, endless[0]))
     return ("number", ranks_by(library.ports, falls), signs)
 
 

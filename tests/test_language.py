@@ -13,12 +13,12 @@ FOLDER = os.path.join(os.path.dirname(os.path.dirname(os.path.abspath(__file__))
 NODES = """Module Expr ImportFrom alias FunctionDef ClassDef arguments arg Assign AugAssign Return If While For Continue
 Break Pass Raise Try ExceptHandler Name Attribute Subscript Slice Constant Tuple List Dict ListComp DictComp SetComp
 comprehension Call BoolOp BinOp UnaryOp Compare IfExp JoinedStr FormattedValue Load Store And Or Not USub Add Sub Mult
-FloorDiv Mod Eq NotEq Lt LtE Gt GtE Is IsNot In NotIn""".split()
+FloorDiv Mod Starred BitAnd LShift RShift Eq NotEq Lt LtE Gt GtE Is IsNot In NotIn""".split()
 BUILTINS = """len range enumerate zip min max sum abs sorted reversed int str bool list tuple dict set isinstance repr any
 all divmod ValueError None True False""".split()
 METHODS = """append clear copy count endswith extend find get index insert isalnum isalpha isdigit islower isspace
 isupper items join keys ljust lower lstrip partition pop remove replace reverse rfind rjust rpartition rsplit rstrip
-setdefault split splitlines startswith strip update upper values zfill""".split()
+setdefault split splitlines startswith strip update upper values zfill bit_length""".split()
 BARRED_ATTRIBUTES = """items keys values pop update append clear extend insert remove reverse setdefault sort args encode
 decode hex fromhex format format_map mro conjugate from_bytes to_bytes bit_count is_integer elements open input law
 version_info with_traceback add_note register""".split()
@@ -263,7 +263,12 @@ class LanguageTest(unittest.TestCase):
     def test_any_and_the_like_take_a_list(self):
         for file, node in self.each(lambda file: file.all_of(ast.Call)):
             if isinstance(node.func, ast.Name) and node.func.id in ("any", "all", "sum"):
-                self.assertEqual(names_of(node.args), ["ListComp"])
+                self.assertEqual(len(node.args), 1)
+                self.assertIn(type(node.args[0]), [ast.ListComp, ast.Name, ast.Attribute])
+
+    def test_stars_stand_in_zip(self):
+        for file, node in self.each(lambda file: file.all_of(ast.Starred)):
+            self.assertEqual([type(node.value), file.parents[node].func.id], [ast.Name, "zip"])
 
     def test_errors(self):
         errors = [node.name for file in FILES if file.name == "errors.py" for node in file.classes]
