@@ -23,6 +23,17 @@ def is_blocked(ports, standing, sides):
     return all([any([other in sides for other in ports.others(side)]) for side in open_ends(standing)])
 
 
+def is_keeping(ports, standing, ranks):
+    """Whether an open end of a standing has other sides of lesser ranks, by sides, than all sides that it refuses."""
+    return any([_are_lesser(ranks, ports.others(side), standing[1]) for side in open_ends(standing)])
+
+
+def are_ranks(ports, value):
+    """Whether a value is told ranks [181]."""
+    sides = ports.sides()
+    return are_told(value, sides) and all([0 <= rank < len(sides) for _, rank in value])
+
+
 def are_items(library, value):
     """Whether a value is a list of tuples (standing, number) with ascending standings and numbers from 1 on."""
     if not is_list(value) or not all([is_pair(item) and is_from(item[1], 1) for item in value]):
@@ -101,3 +112,7 @@ def sign_of(told, standing):
     """The sum of the integers of the sides of a standing's ends, told by a list of tuples (side, integer)."""
     signs = dict(told)
     return sum([signs[side] for side in standing[0]])
+
+
+def _are_lesser(ranks, sides, others):
+    return all([ranks[side] < ranks[other] for side in sides for other in others])

@@ -32,6 +32,16 @@ def left(library):
     return [standing for standing, _ in counts]
 
 
+def left_with(library, standing):
+    """The standings that are left, if a value is one of them."""
+    if standing not in library.standings():
+        raise InvalidStanding(standing)
+    standings = left(library)
+    if standing not in standings:
+        raise NotLeft(standing)
+    return standings
+
+
 def struck(library):
     """The ascending list of the standings that are not left."""
     kept = left(library)

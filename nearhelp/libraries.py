@@ -15,7 +15,7 @@ class Library:
     """The processes that the hands of a net can run."""
 
     def __init__(self, ports, processes):
-        if not _are_processes(ports, processes):
+        if not are_processes(ports, processes):
             raise InvalidProcesses(processes)
         if len(ports.kinds) > MOST_PORTS:
             raise TooMany(len(ports.kinds))
@@ -75,7 +75,8 @@ def read_library(text):
         raise InvalidText(text) from None
 
 
-def _are_processes(ports, value):
+def are_processes(ports, value):
+    """Whether any value is a list of processes of different names that a library of these ports may have."""
     if not is_list(value) or not 1 <= len(value) <= MOST_PROCESSES:
         return False
     if not all([isinstance(item, Process) and item.ports == ports for item in value]):

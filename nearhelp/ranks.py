@@ -1,8 +1,8 @@
 """Falls and ranks of sides [141], and how far standings are [142]."""
 
 from nearhelp.bags import is_blocked
-from nearhelp.errors import InvalidStanding, NoNet, NotLeft
-from nearhelp.joins import left
+from nearhelp.errors import NoNet
+from nearhelp.joins import left, left_with
 
 
 def falls(library):
@@ -17,12 +17,8 @@ def ranks(library):
 
 def far(library, standing):
     """How far a standing that is left is, None if it is endless."""
-    if standing not in library.standings():
-        raise InvalidStanding(standing)
-    standings = left(library)
-    if standing not in standings:
-        raise NotLeft(standing)
-    return _far_by(library.ports, falls_of(library.ports, standings), standing)
+    standings = left_with(library, standing)
+    return far_by(library.ports, falls_of(library.ports, standings), standing)
 
 
 def farthest(library):
@@ -31,7 +27,7 @@ def farthest(library):
     if not standings:
         raise NoNet()
     told = falls_of(library.ports, standings)
-    found = [_far_by(library.ports, told, standing) for standing in standings]
+    found = [far_by(library.ports, told, standing) for standing in standings]
     return None if None in found else max(found)
 
 
@@ -50,7 +46,8 @@ def ranks_by(ports, told):
     return [(side, _first_index([side not in fall for fall in told])) for side in ports.sides()]
 
 
-def _far_by(ports, told, standing):
+def far_by(ports, told, standing):
+    """How far a standing is by falls, None if it is endless."""
     return _first_index([not is_blocked(ports, standing, fall) for fall in told])
 
 

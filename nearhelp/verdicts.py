@@ -1,7 +1,7 @@
 """The three answers, each with what shows that it is right [143]."""
 
-from nearhelp.bags import are_ascending, are_signs, is_blocked, open_ends, sign_of
-from nearhelp.checks import are_told, is_list, is_pair
+from nearhelp.bags import are_ascending, are_ranks, are_signs, is_blocked, is_keeping, sign_of
+from nearhelp.checks import is_list, is_pair
 from nearhelp.counts import is_counts
 from nearhelp.errors import NoNet
 from nearhelp.joins import joined, left
@@ -64,20 +64,8 @@ def _is_row(counted, value):
 def _are_kept_ranks(library, told, signs):
     """Whether values are integers of all sides and signs by which all standings without a sign keep the integers."""
     ports = library.ports
-    sides = ports.sides()
-    if not are_told(told, sides) or not are_signs(ports, signs):
+    if not are_ranks(ports, told) or not are_signs(ports, signs):
         return False
     ranks = dict(told)
-    if not all([0 <= ranks[side] < len(sides) for side in sides]):
-        return False
     signed = [(standing, sign_of(signs, standing)) for standing in library.standings()]
-    return all([sign > 0 or (sign == 0 and _keeps(ports, standing, ranks)) for standing, sign in signed])
-
-
-def _keeps(ports, standing, ranks):
-    """Whether an open end of a standing has other sides of lesser ranks than all sides that it refuses."""
-    return any([_is_lesser(ranks, ports.others(side), standing[1]) for side in open_ends(standing)])
-
-
-def _is_lesser(ranks, sides, others):
-    return all([ranks[side] < ranks[other] for side in sides for other in others])
+    return all([sign > 0 or (sign == 0 and is_keeping(ports, standing, ranks)) for standing, sign in signed])

@@ -1,10 +1,12 @@
 """Ports, conditions, steps, processes, libraries and nets by a seed, the same ones on each run."""
 
 from nearhelp.errors import TooMany
+from nearhelp.joins import left
 from nearhelp.libraries import Library
 from nearhelp.nets import Net
 from nearhelp.ports import Ports
 from nearhelp.processes import Process
+from nearhelp.stills import still
 
 NAMES = ["a", "b", "cup", "kettles"]
 
@@ -185,3 +187,32 @@ def make_any_library(rng):
     if rng.random() < 0.5:
         return make_ranked_library(rng, rng.randint(1, 3), plain)
     return make_library(rng, rng.randint(1, 4) if not plain else 2, plain, rng.random() < 0.6)
+
+
+def make_part_plain_library(rng):
+    """A library of which some sides are plain, and not all, whose processes help one after the other."""
+    while True:
+        ports = make_ports(rng, 2)
+        sides = ports.sides()
+        begins = [[side] for side in rng.sample(sides, rng.randint(1, min(3, len(sides) - 1)))]
+        processes = [Process(ports, "plain", [], begins, [], [])]
+        for name in ["x", "y", "z"][:rng.randint(1, 3)]:
+            side, other = rng.sample(sides, 2)
+            many = rng.randint(1, 3)
+            refuses = [(side, ("above", ("due", other), many - 1))]
+            processes.append(Process(ports, name, [], [[side] + [other] * many], [], refuses))
+        try:
+            library = Library(ports, processes)
+        except TooMany:
+            continue
+        if not all(((side,), ()) in library.standings() for side in sides):
+            return library
+
+
+def make_running_library(rng):
+    """A library, of any kind, that has a net, but none that stands still."""
+    while True:
+        choice = rng.randrange(3)
+        library = [make_any_library, make_ranked_library, make_part_plain_library][choice](rng)
+        if left(library) and still(library) is None:
+            return library

@@ -5,8 +5,10 @@ import inspect
 import unittest
 
 from nearhelp.books import Book
+from nearhelp.bounds import acts_within, halving, log_bound, ready_least, round_least, wait_within
 from nearhelp.codes import compiled
 from nearhelp.counts import is_counts, laid
+from nearhelp.exchanges import waiting_net
 from nearhelp.hands import begin_state, refused, standing, step
 from nearhelp.joins import is_joined, joined, left, own_net, struck
 from nearhelp.libraries import Library, read_library
@@ -18,7 +20,10 @@ from nearhelp.ranks import falls, far, farthest, ranks
 from nearhelp.rounds import all_rounds, order_by, play
 from nearhelp.runs import Run
 from nearhelp.stills import ever, is_ever, is_still, is_weights, still, still_net, value_of, weights
+from nearhelp.stops import harm, is_harm, most_held, stop_net, stops_far
 from nearhelp.tasks import denial, is_denial, is_least, is_solution, is_strict, least, solution, strict
+from nearhelp.trees import is_refusers, refusers
+from nearhelp.typed import added, keeps, least_ranks, why_not
 from nearhelp.verdicts import is_verdict, verdict
 from nearhelp.words import condition_text, is_condition, is_steps, read_condition
 from tests.judged import lists_in
@@ -55,6 +60,20 @@ FUNCTIONS = {
     },
     "ranks": {"falls": "library", "ranks": "library", "far": "library standing", "farthest": "library"},
     "verdicts": {"verdict": "library", "is_verdict": "library value"},
+    "trees": {"refusers": "library standing depth", "is_refusers": "library standing depth value"},
+    "exchanges": {"waiting_net": "library standing depth"},
+    "bounds": {
+        "round_least": "library many", "ready_least": "library weights many", "halving": "library weights",
+        "log_bound": "library weights many", "acts_within": "library standing", "wait_within": "library",
+    },
+    "stops": {
+        "harm": "library", "is_harm": "library value", "most_held": "library many",
+        "stop_net": "library standing depth", "stops_far": "library weights many",
+    },
+    "typed": {
+        "keeps": "process ranks", "why_not": "process ranks", "least_ranks": "ports processes",
+        "added": "library process",
+    },
 }
 CLASSES = {
     ("ports", "Ports"): {"__init__": "kinds", "sides": "", "kind": "side", "others": "side", "__eq__": "other", "text": ""},
@@ -182,8 +201,34 @@ def answer_calls():
     return found
 
 
+def wait_calls():
+    """Calls of everything of the stages 14 to 17, likewise."""
+    either = read_library("port p 2\nprocess aid\n begin p1 p2 p2\n refuse p1 if due p2 above 1")
+    held = "process x\n begin p1 q2\n refuse p1 if due q2 above 0\nprocess y\n begin p2\n begin q1"
+    order = read_library("port p 2\nport q 2\n" + held)
+    told, aid = ([("p1", 1), ("p2", 1)], [("p", 2)]), (("p1", "p2", "p2"), ("p1",))
+    many, at = {"library": either, "weights": told, "many": 5}, {"library": either, "standing": aid, "depth": 2}
+    shown = lambda found: [found.hands(), found.meetings()]
+    process, ranks_told = make(), [("p1", 0), ("p2", 0), ("q1", 0), ("q2", 1)]
+    plain = Process(order.ports, "plain", [], [["p1"], ["q2"]], [], [])
+    found = [
+        (refusers, at), (is_refusers, {**at, "value": refusers(**at)}), (is_refusers, {**at, "value": [(aid, None, None, None)]}),
+        (lambda library, standing, depth: shown(waiting_net(library, standing, depth)), at),
+        (lambda library, standing, depth: [shown(row) if type(row) is Net else row for row in stop_net(library, standing, depth)], at),
+        (round_least, {"library": either, "many": 5}), (ready_least, many), (log_bound, many), (stops_far, many),
+        (halving, {"library": either, "weights": told}), (acts_within, {"library": order, "standing": (("p1",), ())}),
+        (most_held, {"library": either, "many": 5}), (keeps, {"process": process, "ranks": ranks_told}),
+        (why_not, {"process": process, "ranks": ranks_told}), (least_ranks, {"ports": PORTS, "processes": [process]}),
+        (added, {"library": order, "process": plain}),
+    ]
+    for library in [either, order]:
+        found += [(wait_within, {"library": library}), (harm, {"library": library})]
+        found.append((is_harm, {"library": library, "value": harm(library)}))
+    return found
+
+
 def all_calls():
-    return calls() + net_calls() + answer_calls()
+    return calls() + net_calls() + answer_calls() + wait_calls()
 
 
 class InterfaceTest(unittest.TestCase):
@@ -259,7 +304,7 @@ class CallsTest(unittest.TestCase):
                 self.assertEqual(lists_in(found), [])
         for call, named in net_calls():
             self.assertIn(type(call(**named)), [list, tuple, bool, type(None)])
-        for call, named in answer_calls():
+        for call, named in answer_calls() + wait_calls():
             self.assertIn(type(call(**named)), [list, tuple, bool, int, type(None)])
 
 
