@@ -20,7 +20,12 @@ def refused_ends(standing):
 
 def is_blocked(ports, standing, sides):
     """Whether each open end of a standing has another side of its port among some sides."""
-    return all([any([other in sides for other in ports.others(side)]) for side in open_ends(standing)])
+    return are_blocked(ports, open_ends(standing), sides)
+
+
+def are_blocked(ports, opens, sides):
+    """Whether each open side has another side of its port among some sides."""
+    return all([any([other in sides for other in ports.others(side)]) for side in opens])
 
 
 def is_keeping(ports, standing, ranks):

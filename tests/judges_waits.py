@@ -118,3 +118,74 @@ def all_ranks(ports):
     sides = sorted(ports.sides())
     for row in itertools.product(range(len(sides)), repeat=len(sides)):
         yield list(zip(sides, row))
+
+
+# Stage 18
+
+
+def is_rules(ports, value, most=60):
+    if not judges.rowlike(value) or len(value) > most:
+        return False
+    sides = ports.sides()
+    for rule in value:
+        if not judges.pair(rule) or type(rule[0]) is not str or rule[0] not in sides or type(rule[1]) is not tuple:
+            return False
+        if len(rule[1]) > 3 or any(type(side) is not str or side not in sides for side in rule[1]):
+            return False
+        if list(rule[1]) != sorted(set(rule[1])) or rule[0] in rule[1]:
+            return False
+    return True
+
+
+def is_held(ports, opens, sides):
+    """Whether each open side has another side of its port among some sides."""
+    wide = {name: {f"{name}{at}" for at in range(1, many + 1)} for name, many in ports.kinds}
+    return all((wide[end[:-1]] - {end}) & set(sides) for end in opens)
+
+
+def is_kept(ports, rules, facts, sides):
+    """Whether each of some sides is a fact or the side of a rule that these hold up."""
+    return all(side in facts or any(own == side and is_held(ports, opens, sides) for own, opens in rules) for side in sides)
+
+
+def kept_up(ports, rules, facts):
+    """By trying all sets of sides: all that some set has that keeps itself up; such sets together keep themselves up."""
+    found, some = set(), sorted({side for side, _ in rules} | set(facts))
+    for many in range(len(some) + 1):
+        for sides in itertools.combinations(some, many):
+            if is_kept(ports, rules, facts, sides):
+                found |= set(sides)
+    return tuple(sorted(found))
+
+
+def rule_ranks(ports, rules):
+    falls = [{side for side, _ in rules}]
+    for _ in ports.sides():
+        falls.append({side for side, opens in rules if is_held(ports, opens, falls[-1])})
+    return [(side, next((at for at, row in enumerate(falls) if side not in row), None)) for side in sorted(ports.sides())]
+
+
+def may_stand(ports, rules, instead):
+    """By trying all choices and all sets of sides."""
+    for side, opens in rules:
+        others = [[other for other in ports.sides() if other[:-1] == end[:-1] and other != end] for end in opens]
+        for chosen in itertools.product(*others):
+            kept = kept_up(ports, instead, set(chosen))
+            if not any(own == side and is_held(ports, ends, kept) for own, ends in instead):
+                return False
+    return True
+
+
+def is_tower(ports, rules, instead, value):
+    if not judges.pair(value, 3):
+        return False
+    wide, further, side = value
+    if type(wide).__name__ != "Ports" or type(side) is not str or side not in ports.sides():
+        return False
+    if wide.kinds[:len(ports.kinds)] != ports.kinds or len(wide.kinds) == len(ports.kinds):
+        return False
+    if not is_rules(wide, further, 200):
+        return False
+    low = dict(rule_ranks(wide, [*instead, *further]))
+    high = dict(rule_ranks(wide, [*rules, *further]))
+    return None not in low.values() and (high[side] is None or high[side] > low[side])

@@ -4,21 +4,26 @@ import importlib
 import inspect
 import unittest
 
+from nearhelp.bench import Bench
 from nearhelp.books import Book
 from nearhelp.bounds import acts_within, halving, log_bound, ready_least, round_least, wait_within
 from nearhelp.codes import compiled
 from nearhelp.counts import is_counts, laid
+from nearhelp.cures import cures, without
 from nearhelp.exchanges import waiting_net
+from nearhelp.files import file_text, read_file
 from nearhelp.hands import begin_state, refused, standing, step
 from nearhelp.joins import is_joined, joined, left, own_net, struck
 from nearhelp.libraries import Library, read_library
 from nearhelp.machine import run_code
 from nearhelp.nets import Net, surely
 from nearhelp.ports import Ports, read_ports
+from nearhelp.portwaits import wait_bound, waits
 from nearhelp.processes import Process, read_process
 from nearhelp.ranks import falls, far, farthest, ranks
 from nearhelp.rounds import all_rounds, order_by, play
 from nearhelp.runs import Run
+from nearhelp.standins import is_tower, kept_up, may_stand, rule_ranks, rules_of, tower
 from nearhelp.stills import ever, is_ever, is_still, is_weights, still, still_net, value_of, weights
 from nearhelp.stops import harm, is_harm, most_held, stop_net, stops_far
 from nearhelp.tasks import denial, is_denial, is_least, is_solution, is_strict, least, solution, strict
@@ -74,6 +79,13 @@ FUNCTIONS = {
         "keeps": "process ranks", "why_not": "process ranks", "least_ranks": "ports processes",
         "added": "library process",
     },
+    "standins": {
+        "rules_of": "process", "kept_up": "ports rules facts", "rule_ranks": "ports rules",
+        "may_stand": "ports rules instead", "tower": "ports rules instead", "is_tower": "ports rules instead value",
+    },
+    "portwaits": {"waits": "library", "wait_bound": "library name side"},
+    "cures": {"without": "process side", "cures": "library"},
+    "files": {"file_text": "library verdict", "read_file": "text"},
 }
 CLASSES = {
     ("ports", "Ports"): {"__init__": "kinds", "sides": "", "kind": "side", "others": "side", "__eq__": "other", "text": ""},
@@ -93,6 +105,10 @@ CLASSES = {
     ("runs", "Run"): {
         "__init__": "net", "state": "hand", "standing": "hand", "unheld": "", "ready": "", "able": "", "stopped": "",
         "waiting": "", "held": "", "stop": "hand", "hold": "chosen", "greedy": "order",
+    },
+    ("bench", "Bench"): {
+        "__init__": "ports", "put": "process", "drop": "name", "names": "", "library": "", "answer": "", "ranks": "",
+        "__len__": "", "undo": "", "redo": "", "tried": "act", "text": "",
     },
 }
 PORTS = Ports([("q", 2), ("p", 2)])
@@ -227,8 +243,34 @@ def wait_calls():
     return found
 
 
+def bench_calls():
+    """Calls of everything of the stages 18 to 22, likewise."""
+    either = read_library("port p 2\nprocess aid\n begin p1 p2 p2\n refuse p1 if due p2 above 1")
+    process = either.book("aid").process
+    soon, late = [("p1", ("q1", "q2"))], [("p1", ("q1",))]
+    both = {"ports": PORTS, "rules": late, "instead": soon}
+    shown = lambda found: [row.text() if type(row) is Ports else row for row in found]
+    text = file_text(either, verdict(either))
+    bench = Bench(either.ports)
+    bench.put(process)
+    return [
+        (rules_of, {"process": process}), (kept_up, {"ports": PORTS, "rules": soon, "facts": ["q2"]}),
+        (rule_ranks, {"ports": PORTS, "rules": soon}), (may_stand, both),
+        (lambda ports, rules, instead: shown(tower(ports, rules, instead)), both),
+        (is_tower, {**both, "value": tower(**both)}), (waits, {"library": either}),
+        (wait_bound, {"library": read_library("port p 2\nprocess x\n begin p1\n begin p2"), "name": "x", "side": "p1"}),
+        (lambda process, side: without(process, side).text(), {"process": process, "side": "p1"}), (cures, {"library": either}),
+        (file_text, {"library": either, "verdict": verdict(either)}),
+        (lambda text: [read_file(text)[0].text(), read_file(text)[1]], {"text": text}),
+        (bench.names, {}), (lambda: bench.library().text(), {}), (bench.answer, {}), (bench.ranks, {}), (bench.text, {}),
+        (lambda act: bench.tried(act), {"act": len}),
+        (lambda process: bench.tried(lambda desk: [desk.put(process), desk.drop(name="aid"), desk.names()]), {"process": process}),
+        (lambda ports, text: Bench.read(ports, text).text(), {"ports": either.ports, "text": bench.text()}),
+    ]
+
+
 def all_calls():
-    return calls() + net_calls() + answer_calls() + wait_calls()
+    return calls() + net_calls() + answer_calls() + wait_calls() + bench_calls()
 
 
 class InterfaceTest(unittest.TestCase):
@@ -253,6 +295,10 @@ class InterfaceTest(unittest.TestCase):
             for method, parameters in methods.items():
                 self.assertIn(method, vars(found))
                 self.assertEqual(self.parameters(vars(found)[method])[1:], parameters.split())
+
+    def test_the_static_method(self):
+        self.assertIs(type(vars(Bench)["read"]), staticmethod)
+        self.assertEqual(self.parameters(Bench.read), ["ports", "text"])
 
     def test_attributes_are_set_on_objects(self):
         process = make()
@@ -306,6 +352,8 @@ class CallsTest(unittest.TestCase):
             self.assertIn(type(call(**named)), [list, tuple, bool, type(None)])
         for call, named in answer_calls() + wait_calls():
             self.assertIn(type(call(**named)), [list, tuple, bool, int, type(None)])
+        for call, named in bench_calls():
+            self.assertIn(type(call(**named)), [list, tuple, bool, int, str])
 
 
 if __name__ == "__main__":

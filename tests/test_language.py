@@ -18,7 +18,7 @@ BUILTINS = """len range enumerate zip min max sum abs sorted reversed int str bo
 all divmod ValueError None True False""".split()
 METHODS = """append clear copy count endswith extend find get index insert isalnum isalpha isdigit islower isspace
 isupper items join keys ljust lower lstrip partition pop remove replace reverse rfind rjust rpartition rsplit rstrip
-setdefault split splitlines startswith strip update upper values zfill bit_length""".split()
+setdefault split splitlines startswith strip update upper values zfill bit_length removeprefix""".split()
 BARRED_ATTRIBUTES = """items keys values pop update append clear extend insert remove reverse setdefault sort args encode
 decode hex fromhex format format_map mro conjugate from_bytes to_bytes bit_count is_integer elements open input law
 version_info with_traceback add_note register""".split()
@@ -163,7 +163,7 @@ class LanguageTest(unittest.TestCase):
     def test_functions(self):
         for file, node in self.each(lambda file: file.functions):
             self.assertLessEqual(node.end_lineno - node.lineno + 1, 40)
-            self.assertEqual(node.decorator_list, [])
+            self.assertIn([ast.unparse(item) for item in node.decorator_list], [[], ["staticmethod"]])
             arguments = node.args
             plain = [arguments.posonlyargs, arguments.kwonlyargs, arguments.defaults, arguments.vararg, arguments.kwarg]
             self.assertEqual(plain, [[], [], [], None, None])
@@ -171,13 +171,23 @@ class LanguageTest(unittest.TestCase):
             self.assertIsNone(node.returns)
             self.assertIn(type(file.parents[node]), [ast.Module, ast.ClassDef])
             if node.name.startswith("__"):
-                self.assertIn(node.name, ["__init__", "__eq__"])
+                self.assertIn(node.name, ["__init__", "__eq__", "__len__"])
                 self.assertIsInstance(file.parents[node], ast.ClassDef)
             if node.name == "__init__":
                 self.assertEqual([item for item in ast.walk(node) if isinstance(item, ast.Return)], [])
             if node.name == "__eq__":
                 start = f"if not isinstance(other, {file.parents[node].name}):\n    return False"
                 self.assertEqual(ast.unparse(node.body[0]), start)
+            if node.name == "__len__":
+                self.assertRegex(ast.unparse(node.body[-1]), r"^return len\(self\.\w+\)$")
+
+    def test_static_methods(self):
+        for file, node in self.each(lambda file: [node for node in file.functions if node.decorator_list]):
+            self.assertIsInstance(file.parents[node], ast.ClassDef)
+            self.assertNotIn("self", [item.arg for item in node.args.args])
+            others = [other.name for row in FILES for other in row.functions if other is not node]
+            stored = [other.attr for row in FILES for other in row.all_of(ast.Attribute) if isinstance(other.ctx, ast.Store)]
+            self.assertNotIn(node.name, others + stored + METHODS)
 
     def test_classes(self):
         for file, node in self.each(lambda file: file.classes):
@@ -207,6 +217,9 @@ class LanguageTest(unittest.TestCase):
                 self.assertFalse(name in every or name in BARRED_NAMES, f"{file.name}: {name}")
             for node in file.all_of(ast.Name):
                 self.assertFalse(node.id == "_" and isinstance(node.ctx, ast.Load))
+                if isinstance(file.parents[node], ast.FunctionDef):
+                    self.assertEqual(node.id, "staticmethod")
+                    continue
                 if node.id in every:
                     self.assertIn(node.id, BUILTINS)
                 known = file.locals() + file.bound() + BUILTINS
@@ -273,7 +286,8 @@ class LanguageTest(unittest.TestCase):
     def test_errors(self):
         errors = [node.name for file in FILES if file.name == "errors.py" for node in file.classes]
         for _, node in self.each(lambda file: file.all_of(ast.ExceptHandler)):
-            self.assertIn(node.type.id, errors)
+            caught = node.type.elts if isinstance(node.type, ast.Tuple) else [node.type]
+            self.assertEqual([item.id for item in caught if item.id not in errors], [])
             self.assertIsNone(node.name)
         for _, node in self.each(lambda file: file.all_of(ast.Raise)):
             self.assertIn(node.exc.func.id, errors)
@@ -281,7 +295,11 @@ class LanguageTest(unittest.TestCase):
             if node.cause is not None:
                 self.assertIsNone(node.cause.value)
         for _, node in self.each(lambda file: file.all_of(ast.Try)):
-            self.assertEqual([node.orelse, node.finalbody, len(node.handlers)], [[], [], 1])
+            self.assertEqual([node.orelse, bool(node.finalbody) + len(node.handlers)], [[], 1])
+            for row in node.finalbody:
+                self.assertIsInstance(row, ast.Assign)
+                sides = [*row.targets[0].elts, *row.value.elts]
+                self.assertEqual([type(item) for item in sides if type(item) not in (ast.Attribute, ast.Name)], [])
 
     def test_is_only_beside_none_and_bools(self):
         for _, node in self.each(lambda file: file.all_of(ast.Compare)):
