@@ -431,7 +431,7 @@ class TextTest(BenchCase):
         starts = [1, 5, 8]
         for at in range(len(lines)):
             start = max(number for number in starts if number <= at + 1)
-            for line in ["Put", "put ", "puts", "", "drop", "drop ", "drop  lone", "take lone", "process aid"]:
+            for line in ["Put", "put ", "puts", "", "drop", "drop ", "drop  lone", "take lone", "process aid", "aid", "lone"]:
                 text = "\n".join(lines[:at] + [line] + lines[at + 1:])
                 # A line that begins a change may cut the one ahead short.
                 cut = start if at + 1 == start or at + 1 > start and not self.is_put(lines[start - 1:at]) else at + 1

@@ -356,6 +356,9 @@ class TowerTest(JudgedCase):
             self.assertIs(is_tower(PQR, LATE, SOON, (ports,) + right[1:]), False)
         for ports in [Ports(list(wide.kinds) + [("t", 3)]), Ports(list(PQR.kinds) + [("s", 3)])]:
             self.assertIs(is_tower(PQR, LATE, SOON, (ports,) + right[1:]), True)
+        # Without one more port, what would be right is no tower.
+        for ports in [PQR, wide]:
+            self.assertIs(is_tower(PQR, LATE, SOON, (ports, [("q2", ("p1",))], "p1")), ports == wide)
         for further in [[("q2", ())], [("q2", ("s2",)), ("s1", ())], [], [("q2", ("t1",))], [("q2", ("s1",)), ("r2", ("s1",))], [("q1", ("s1",))]]:
             self.assertIs(is_tower(PQR, LATE, SOON, (wide, further, "p1")), False)
         for side in ["q2", "s1", "p2", "P1", "p", None, 1, ("p1",), ["p1"]]:

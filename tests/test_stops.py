@@ -115,6 +115,14 @@ class HarmTest(HarmCase):
         self.assertIs(is_harm(EITHER, (1, 4, FOUR, [(LONG, 1)], 4, TOLD)), True)
         self.assertIs(is_harm(EITHER, (1, 4, [(A, 8), (LONG, 4)], [(LONG, 4)], 8, ([("p1", 2), ("p2", 2)], [("p", 4)]))), True)
 
+    def test_refused_ends_on_both_sides_of_a_port(self):
+        # One that has stopped holds up one that it meets at p, and one at q; the one at p holds up one more at q.
+        x = "process x\n begin p1 q1\n refuse q1 if due p1 above 0\nprocess y\n begin p2 q2\n refuse q2 if due p2 above 0"
+        library = read_library("port p 2\nport q 2\n" + x)
+        self.assertEqual(self.harm_judged(library), (1, 4))
+        closed = read_library("port p 2\nport q 2\n" + x.replace("if due p1 above 0", "if 0 is 0").replace("if due p2 above 0", "if 0 is 0"))
+        self.assertEqual(self.harm_judged(closed), "Still")
+
     def test_random_libraries(self):
         rng, found = random.Random(171), []
         for _ in range(250):
@@ -170,6 +178,7 @@ class HarmTest(HarmCase):
         for at, wrong in [(0, 2), (1, 8), (0, 0), (0, -1), (1, 0), (2, FOUR[::-1]), (2, FOUR[:1]), (2, []), (3, []), (3, [(LONG, 2)]), (3, [(A, 1)]), (4, 0), (4, 5), (4, 3), (4, -4)]:
             self.assertIs(is_harm(EITHER, right[:at] + (wrong,) + right[at + 1:]), False)
         self.assertIs(is_harm(EITHER, (2, 8) + right[2:]), False)
+        self.assertIs(is_harm(EITHER, right[:4] + (0, ([("p1", 0), ("p2", 0)], [("p", 0)]))), False)
         self.assertIs(is_harm(EITHER, list(right)), False)
         for library in [LONE, BOTH, CLOSED]:
             self.assertIs(is_harm(library, right), False)

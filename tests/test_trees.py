@@ -213,6 +213,22 @@ class JudgeTest(TreesCase):
         for value in any_values() + [call, [((("p1",), ()), None, None, None)]]:
             self.assertIs(is_refusers(EITHER, (("p1",), ()), 1, value), False)
 
+    def test_children_in_any_order(self):
+        held = (("p2", "q2", "r1"), ("r1",))
+        first, second = (LONG, 0, "p2", "p1"), ((("p2", "q1"), ("q1",)), 0, "q2", "q1")
+        for children in [[first, second], [second, first]]:
+            self.judged_tree(SIXTY, held, 1, [(held, None, None, None)] + children)
+        self.assertIs(is_refusers(SIXTY, held, 1, [(held, None, None, None), second, first]), True)
+
+    def test_refusers_of_the_other_side_alone(self):
+        # The standing of a child refuses the very side that is told, and this is another side of the open end's port.
+        both = "\nprocess u\n begin p1 q1 p2\n refuse p1 if 0 is 0\n refuse q1 if due p2 above 0\nprocess v\n begin q2"
+        library = read_library(EITHER.text().replace("port p 2", "port p 2\nport q 2") + both)
+        held, call = (("p1", "p2", "q1"), ("p1", "q1")), [(LAST, None, None, None)]
+        self.assertIn(held, left(library))
+        for child, right in [((held, 0, "p2", "p1"), True), ((held, 0, "p2", "q1"), False), (((("p1",), ()), 0, "p2", "p1"), False), (((("p1", "p2"), ()), 0, "p2", "p1"), False)]:
+            self.assertIs(is_refusers(library, LAST, 1, call + [child]), right)
+
     def test_standings_that_are_struck_are_in_no_tree(self):
         struck_one = (("p1", "q1"), ("p1",))
         self.assertEqual(struck(NOBODY), [struck_one])

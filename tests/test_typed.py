@@ -200,6 +200,17 @@ class LeastTest(JudgedCase):
             found += 1
             self.same(least_ranks(library.ports, processes_of(library)), ranks(library))
 
+    def test_no_standing_is_farther_than_the_greatest_rank_that_all_keep(self):
+        rng, found = random.Random(1822), set()
+        for _ in range(300):
+            library = makers.make_any_library(rng)
+            told = least_ranks(library.ports, processes_of(library))
+            if told is not None and len(struck(library)) < len(library.standings()):
+                self.assertEqual(verdict(library)[0], "number")
+                self.assertLessEqual(farthest(library), max(rank for _, rank in told))
+                found.add((farthest(library), max(rank for _, rank in told)))
+        self.assertLessEqual({(0, 0), (1, 1), (0, 1)}, found)
+
     def test_errors(self):
         for value in any_values() + [[], [ONE, ONE], some(7), [ONE, None], [make(Ports([("q", 2), ("p", 2)]), "x", [["p1"]])]]:
             self.refuses(InvalidProcesses, value, least_ranks, SMALL, value)
