@@ -25,7 +25,10 @@ def is_blocked(ports, standing, sides):
 
 def are_blocked(ports, opens, sides):
     """Whether each open side has another side of its port among some sides."""
-    return all([any([other in sides for other in ports.others(side)]) for side in opens])
+    for side in opens:
+        if not any([other in sides for other in ports.others(side)]):
+            return False
+    return True
 
 
 def is_keeping(ports, standing, ranks):

@@ -27,6 +27,7 @@ class Library:
         self.most = max([len(lot) for lot, _ in holders])
         self._books = books
         self._holders = holders
+        self._standings = sorted(list(holders))
 
     def __eq__(self, other):
         if not isinstance(other, Library):
@@ -49,12 +50,12 @@ class Library:
 
     def standings(self):
         """The ascending list of the different standings of all processes."""
-        return sorted(list(self._holders))
+        return list(self._standings)
 
     def holders(self, standing):
         """The list of the names and indices of all states with a standing."""
         # The value may have no hash, so it is looked for in the list first.
-        if standing not in self.standings():
+        if standing not in self._standings:
             raise InvalidStanding(standing)
         return list(self._holders[standing])
 
